@@ -1,170 +1,15 @@
-"""What is answered, held against a model that is written as plainly as the document's words.
+"""What is answered, held against the helper's model.
 
 The boards are the same each time: they come of a seed.
 """
 
-import itertools
 import random
 import unittest
 
-from tests.helper import AT, COUNT, HOLD, LEAK, LEAKS, PART, PARTS, RIGHT, RINGS, TURN, WAY, WET, ask, start
-
-STEPS = ((0, -1), (1, 0), (0, 1), (-1, 0))
-
-
-class Model:
-    def __init__(self, width, height, source, goes_round, pieces):
-        self.width = width
-        self.height = height
-        self.source = source
-        self.goes_round = goes_round
-        self.pieces = list(pieces)
-        self.held = set()
-
-    def beside(self, cell, direction):
-        x = cell % self.width + STEPS[direction][0]
-        y = cell // self.width + STEPS[direction][1]
-        if self.goes_round:
-            x, y = x % self.width, y % self.height
-        elif x not in range(self.width) or y not in range(self.height):
-            return None
-        return y * self.width + x
-
-    def arms(self):
-        return {(cell, d) for cell, piece in enumerate(self.pieces) for d in range(4) if piece >> d & 1}
-
-    def joints(self):
-        arms = self.arms()
-        other = {arm: (self.beside(*arm), (arm[1] + 2) % 4) for arm in arms}
-        return {frozenset((arm, other[arm])) for arm in arms if other[arm] in arms}
-
-    def leaks(self):
-        return sorted(self.arms() - {arm for joint in self.joints() for arm in joint})
-
-    def pairs(self):
-        return {tuple(sorted({cell for cell, d in joint})) for joint in self.joints()}
-
-    def part(self, cell):
-        found = {cell}
-        while True:
-            more = {end for pair in self.pairs() if found & set(pair) for end in pair} | found
-            if more == found:
-                return sorted(found)
-            found = more
-
-    def piped(self):
-        return [cell for cell, piece in enumerate(self.pieces) if piece]
-
-    def parts(self):
-        return sorted({tuple(self.part(cell)) for cell in self.piped()})
-
-    def rings(self):
-        return len(self.joints()) + len(self.parts()) - len(self.piped())
-
-    def right(self):
-        return not self.leaks() and set(self.piped()) <= set(self.part(self.source)) and self.rings() == 0
-
-    def way(self, begun, to):
-        pairs = self.pairs()
-        paths = [(begun,)]
-        while paths:
-            done = [path for path in paths if path[-1] == to]
-            if done:
-                return min(done)
-            paths = [
-                path + (cell,) for path in paths for cell in range(len(self.pieces))
-                if cell not in path and tuple(sorted((path[-1], cell))) in pairs
-            ]
-        return None
-
-    def lies(self, cell):
-        piece = self.pieces[cell]
-        turned = {(piece << n | piece >> 4 - n) & 15 for n in range(4)}
-        return {piece} if cell in self.held else turned
-
-    def count_by_turning(self):
-        found = 0
-        for pieces in itertools.product(*[sorted(self.lies(cell)) for cell in range(len(self.pieces))]):
-            board = Model(self.width, self.height, self.source, self.goes_round, pieces)
-            found += board.right()
-        return found
-
-    def count_by_joints(self):
-        # All sets of joints that make a tree of the cells with a pipe, asked whether the pieces can lie so.
-        joints = []
-        for cell, d in itertools.product(range(len(self.pieces)), (1, 2)):
-            if self.beside(cell, d) not in (None, cell):
-                joints.append((cell, d, self.beside(cell, d)))
-        lies = [self.lies(cell) for cell in range(len(self.pieces))]
-        piped = self.piped()
-        if piped and self.source not in piped:
-            return 0
-        return tree_count(joints, lies, piped)
-
-
-def tree_count(joints, lies, piped):
-    most = [max(bin(piece).count("1") for piece in some) for some in lies]
-    wanted = max(0, len(piped) - 1)
-
-    def counted(place, chosen, roots, pieces):
-        if chosen == wanted:
-            return int(all(piece in some for piece, some in zip(pieces, lies)))
-        if len(joints) - place < wanted - chosen:
-            return 0
-        found = counted(place + 1, chosen, roots, pieces)
-        cell, d, other = joints[place]
-        longer = list(pieces)
-        longer[cell] |= 1 << d
-        longer[other] |= 1 << (d + 2) % 4
-        if roots[cell] != roots[other] and all(bin(longer[end]).count("1") <= most[end] for end in (cell, other)):
-            merged = [roots[cell] if root == roots[other] else root for root in roots]
-            found += counted(place + 1, chosen + 1, merged, longer)
-        return found
-
-    return counted(0, 0, list(range(len(lies))), [0] * len(lies))
-
-
-def text_of(model):
-    digits = "".join("0123456789abcdef"[piece] for piece in model.pieces)
-    return "".join(digits[row * model.width:(row + 1) * model.width] + "\n" for row in range(model.height))
-
-
-def sizes(most):
-    return [(w, h) for w in range(1, 6) for h in range(1, 6) if w * h <= most]
-
-
-def random_model(dice, size):
-    width, height = size
-    few = dice.choice(([0, 1, 2, 3, 5, 6], list(range(16)), [7, 11, 13, 14, 15]))
-    pieces = [dice.choice(few) for cell in range(width * height)]
-    return Model(width, height, dice.randrange(width * height), dice.randrange(2), pieces)
-
-
-def tree_model(dice, size):
-    # A board that can be turned right: a tree grown joint by joint, then each piece turned.
-    width, height = size
-    cells = width * height
-    model = Model(width, height, 0, dice.randrange(2), [0] * cells)
-    grown = [dice.randrange(cells)]
-    for step in range(cells * 6):
-        cell, d = dice.choice(grown), dice.randrange(4)
-        other = model.beside(cell, d)
-        if other is not None and other not in grown:
-            model.pieces[cell] |= 1 << d
-            model.pieces[other] |= 1 << (d + 2) % 4
-            grown.append(other)
-    model.source = dice.choice(grown)
-    model.pieces = [dice.choice(sorted(model.lies(cell))) for cell in range(cells)]
-    return model
-
-
-def begun(model):
-    first = start(model.width, model.height, model.source, model.goes_round, text_of(model))
-    return [first] + [[HOLD, cell] for cell in sorted(model.held)]
-
-
-def row(numbers):
-    return [len(numbers)] + list(numbers)
+from tests.helper import (
+    AT, COUNT, HINT, KNOWN, LAY, LEAK, LEAKS, NEAREST, NTH, PART, PARTS, RIGHT, RINGS, SURE, TURN, WAY, WET,
+    Model, ask, begun, random_model, row, sizes, spun, text_of, tree_model,
+)
 
 
 class Compared(unittest.TestCase):
@@ -192,31 +37,56 @@ class Compared(unittest.TestCase):
             self.compare_asked(random_model(dice, dice.choice(sizes(12))))
             self.compare_asked(tree_model(dice, dice.choice(sizes(12))))
 
-    def compare_count(self, model, told):
-        asked = ask(*begun(model), [COUNT])[-1]
-        self.assertEqual(asked, [told], (text_of(model), model.source, model.goes_round, model.held))
+    def compare_ways(self, model, ways):
+        cells = range(len(model.pieces))
+        places = list(range(min(len(ways), 120)))
+        calls = [[COUNT], [NTH, len(ways)]] + [[NTH, k] for k in places] + [[SURE, cell] for cell in cells]
+        told = [[len(ways)], [-2]] + [row(ways[k]) for k in places]
+        if ways:
+            alike = [cell for cell in cells if len({board[cell] for board in ways}) == 1]
+            told += [[ways[0][cell]] if cell in alike else [-6] for cell in cells]
+            least = min(model.turns(board) for board in ways)
+            near = [board for board in ways if model.turns(board) == least][0]
+            differ = [(cell, quarters) for cell, quarters in enumerate(model.quarters(near)) if quarters]
+            told += [row(alike), [least] + near, list(differ[0]) if differ else [-6]]
+        else:
+            told += [[-33]] * (len(cells) + 3)
+        asked = ask(*begun(model), *calls, [KNOWN], [NEAREST], [HINT])[-len(told):]
+        self.assertEqual(asked, told, (text_of(model), model.source, model.goes_round, model.held))
 
-    def test_count_by_turning(self):
+    def test_ways_by_turning(self):
         dice = random.Random(2)
         for make in (random_model, tree_model):
             for time in range(120):
                 model = make(dice, dice.choice(sizes(4)))
                 model.held = {cell for cell in range(len(model.pieces)) if dice.randrange(4) == 0}
-                self.compare_count(model, model.count_by_turning())
+                ways = model.ways_by_turning()
+                self.assertEqual(model.ways_by_joints(), ways)
+                self.compare_ways(model, ways)
 
-    def test_count_by_joints(self):
+    def test_ways_by_joints(self):
         dice = random.Random(3)
         for time in range(60):
-            model = tree_model(dice, dice.choice(sizes(9)))
-            self.compare_count(model, model.count_by_joints())
+            model = tree_model(dice, dice.choice(sizes(10)))
+            self.compare_ways(model, model.ways_by_joints())
             model.held = {dice.randrange(len(model.pieces))}
-            self.compare_count(model, model.count_by_joints())
+            self.compare_ways(model, model.ways_by_joints())
 
-    def test_count_on_twelve_cells(self):
+    def test_ways_on_twelve_cells(self):
         dice = random.Random(4)
         for time in range(12):
             model = tree_model(dice, dice.choice(((4, 3), (3, 4))))
-            self.compare_count(model, model.count_by_joints())
+            self.compare_ways(model, model.ways_by_joints())
+
+    def test_all_ways_are_right(self):
+        dice = random.Random(6)
+        for time in range(30):
+            model = tree_model(dice, dice.choice(sizes(12)))
+            first = begun(model)
+            many = ask(*first, [COUNT])[-1][0]
+            for k in range(min(many, 20)):
+                told = ask(*first, [LAY, k], [RIGHT], [LEAKS], [RINGS])[-3:]
+                self.assertEqual(told, [[1], [0], [0]], (text_of(model), k))
 
     def test_a_right_board_has_one_joint_fewer_than_cells_with_a_pipe(self):
         model = Model(4, 3, 0, 0, [2, 10, 10, 12, 6, 10, 10, 9, 3, 10, 10, 8])
@@ -230,8 +100,7 @@ class Compared(unittest.TestCase):
             calls = begun(model)
             for step in range(10):
                 cell, quarters = dice.randrange(len(model.pieces)), dice.randrange(1, 4)
-                piece = model.pieces[cell]
-                model.pieces[cell] = (piece << quarters | piece >> 4 - quarters) & 15
+                model.pieces[cell] = spun(model.pieces[cell], quarters)
                 calls.append([TURN, cell, quarters])
             told = ask(*calls, [WET], [LEAKS], [RINGS])[-3:]
             self.assertEqual(told, [row(model.part(model.source)), [len(model.leaks())], [model.rings()]])

@@ -2,13 +2,19 @@ import contextlib
 import io
 import unittest
 
-from tests.helper import AT, COUNT, HOLD, LEAK, LET, PART, RIGHT, TURN, WAY, WET, ask, flat, split, start
+from tests.helper import (
+    AGAIN, AT, BACK, COUNT, CUT, ENDS, HINT, HOLD, KNOWN, LAY, LEAK, LEAKS, LET, NEAREST, NTH, PART, PARTS, RIGHT, RINGS,
+    SOURCE, STATE, SURE, TEXT, TURN, WAY, WET, ask, flat, mix, split, start,
+)
 from turnedpipes.board import answers
 
-CALLS = flat([
+EACH = [
     start(4, 3, 5, 1, "2aac\n6aa9\n3aa8\n"), [TURN, 0, 1], [HOLD, 3], [TURN, 3, 1], [LET, 3], [AT, 3], [WET], [LEAK, 0],
-    [PART, 7], [WAY, 1, 9], [COUNT], [RIGHT], start(9, 9, 9, 9, "x"), start(2, 1, 0, 0, "28"), [WET], [AT, 2],
-])
+    [LEAKS], [RINGS], [PARTS], [PART, 7], [WAY, 1, 9], [COUNT], [RIGHT], [NTH, 0], [SURE, 5], [KNOWN], [NEAREST], [HINT],
+    [LAY, 0], [TEXT], mix("2aac\n6aa9\n3aa4\n"), mix("x"), [SOURCE, 11], [CUT, 0], [ENDS], [BACK], [BACK], [AGAIN], [STATE],
+    start(9, 9, 9, 9, "x"), start(2, 1, 0, 0, "28"), [WET], [AT, 2], [BACK], [STATE],
+]
+CALLS = flat(EACH)
 
 
 class Unchangeable(list):
@@ -85,6 +91,20 @@ class Interface(unittest.TestCase):
             calls.extend([[TURN, place % 12, 1], [COUNT]])
         told = ask(*calls, [COUNT])
         self.assertEqual(len({answer[0] for answer in told[2::2]}), 1)
+
+    def test_two_hundred_calls_that_ask_for_ways(self):
+        # Of 32 ways, as all joints between the two lines can be on either side.
+        calls = [start(5, 2, 0, 1, "b6119\n129e9\n")]
+        for place in range(33):
+            calls.extend([[TURN, place % 10, 1], [NTH, place], [NEAREST], [HINT], [KNOWN], [SURE, place % 10]])
+        told = ask(*calls, [COUNT])
+        self.assertEqual(len(told), 200)
+        self.assertEqual(told[-1], [32])
+        self.assertEqual([answer[0] for answer in told[2::6]], [10] * 32 + [-2])
+
+    def test_every_call_is_among_these(self):
+        self.assertEqual({call[0] for call in EACH}, set(range(28)))
+        self.assertEqual(len(split(answers(CALLS))), len(EACH))
 
 
 if __name__ == "__main__":

@@ -145,13 +145,17 @@ class Language(unittest.TestCase):
                 self.assertIsInstance(node, (ast.ImportFrom, ast.FunctionDef, ast.ClassDef, ast.Assign), name)
 
     def test_methods(self):
+        classes = [node for name, node in walked() if isinstance(node, ast.ClassDef)]
+        own = [part.name for node in classes for part in node.body if isinstance(part, ast.FunctionDef)]
+        self.assertEqual(len(own), len(set(own)))
         values = {node.attr for name, node in walked() if isinstance(node, ast.Attribute)}
         for name, node in walked():
             if isinstance(node, ast.Call) and isinstance(node.func, ast.Attribute):
-                self.assertIn(node.func.attr, METHODS, name)
+                self.assertIn(node.func.attr, METHODS + own, name)
                 values.discard(node.func.attr)
         kinds = (str, int, list, dict, set, bytes)
-        self.assertEqual([value for value in sorted(values) if any(hasattr(kind, value) for kind in kinds)], [])
+        for value in sorted(values) + [method for method in own if method != "__init__"]:
+            self.assertFalse(any(hasattr(kind, value) for kind in kinds), value)
 
     def test_what_a_loop_walks_is_not_changed_in_it(self):
         for name, node in walked():

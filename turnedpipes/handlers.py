@@ -1,33 +1,21 @@
-"""The calls: each takes the game and its numbers (a text's bytes last), and answers a list.
+"""Which call is answered by which handler, and what is asked ahead of each.
 
 A refusal is one number below 0, alone, and leaves the game as it was.
 """
 
-from turnedpipes.cells import all_sides
-from turnedpipes.joints import (
-    all_parts, is_right, leak_directions, leak_total, part_of, piped_cells, ring_total, shortest_way,
-)
-from turnedpipes.pieces import turned
+from turnedpipes.asked import ASKED
+from turnedpipes.changes import CHANGES
+from turnedpipes.joints import piped_cells
+from turnedpipes.refusals import NO_BOARD, NOT_BEGUN, NOT_THERE, OUT_OF_RANGE
 from turnedpipes.texts import read_board
-from turnedpipes.ways import all_ways
-
-NOT_BEGUN = -61
-OUT_OF_RANGE = -22
-NO_BOARD = -71
-IS_HELD = -17
-NOT_THERE = -2
-APART = -6
 
 MOST_A_SIDE = 5
 MOST_CELLS = 12
 
+START = 0
 
-class NotBuilt(Exception):
-    pass
-
-
-def as_row(numbers):
-    return [len(numbers)] + numbers
+# How many of a call's first numbers are cells, from call 0 on.
+CELL_NUMBERS = (0, 1, 1, 1, 1, 0, 0, 1, 0, 0, 0, 1, 2, 0, 0, 1, 0, 0, 0, 0, 0, 0, 1, 1, 0, 0, 0, 0)
 
 
 def is_size(width, height):
@@ -44,93 +32,36 @@ def start(game, numbers):
     pieces = read_board(numbers[4:], width, height)
     if pieces is None:
         return [NO_BOARD]
-    game.begun = True
-    game.sides = all_sides(width, height, goes_round == 1)
-    game.pieces = pieces
-    game.held = {}
-    game.source = source
+    game.begin(width, height, goes_round)
+    game.become((pieces, {}, source, 0))
     return [len(piped_cells(pieces))]
 
 
-def turn(game, numbers):
-    cell = numbers[0]
-    quarters = numbers[1]
-    if not 1 <= quarters <= 3:
-        return [OUT_OF_RANGE]
-    if cell in game.held:
-        return [IS_HELD]
-    game.pieces[cell] = turned(game.pieces[cell], quarters)
-    return [game.pieces[cell]]
-
-
-def hold(game, numbers):
-    cell = numbers[0]
-    if cell in game.held:
-        return [IS_HELD]
-    game.held[cell] = True
-    return [len(game.held)]
-
-
-def let(game, numbers):
-    cell = numbers[0]
-    if cell not in game.held:
+def back(game, numbers):
+    if len(game.earlier) == 0:
         return [NOT_THERE]
-    game.held.pop(cell)
-    return [len(game.held)]
+    game.take_back()
+    return [len(game.earlier)]
 
 
-def at(game, numbers):
-    cell = numbers[0]
-    leaking = len(leak_directions(game.pieces, game.sides, cell))
-    is_wet = 1 if cell in part_of(game.pieces, game.sides, game.source) else 0
-    is_held = 1 if cell in game.held else 0
-    return [game.pieces[cell], leaking, is_wet, is_held]
+def again(game, numbers):
+    if len(game.later) == 0:
+        return [NOT_THERE]
+    game.do_again()
+    return [len(game.later)]
 
 
-def wet(game, numbers):
-    return as_row(part_of(game.pieces, game.sides, game.source))
+OTHERS = {0: start, 25: back, 26: again}
 
 
-def leaks(game, numbers):
-    return [leak_total(game.pieces, game.sides)]
-
-
-def leak(game, numbers):
-    return as_row(leak_directions(game.pieces, game.sides, numbers[0]))
-
-
-def rings(game, numbers):
-    return [ring_total(game.pieces, game.sides)]
-
-
-def right(game, numbers):
-    return [1 if is_right(game.pieces, game.sides, game.source) else 0]
-
-
-def parts(game, numbers):
-    return as_row([members[0] for members in all_parts(game.pieces, game.sides)])
-
-
-def part(game, numbers):
-    return as_row(part_of(game.pieces, game.sides, numbers[0]))
-
-
-def way(game, numbers):
-    cells = shortest_way(game.pieces, game.sides, numbers[0], numbers[1])
-    if cells is None:
-        return [APART]
-    return as_row(cells)
-
-
-def count(game, numbers):
-    return [len(all_ways(game.pieces, game.held, game.sides, game.source))]
-
-
-START = 0
-HANDLERS = (start, turn, hold, let, at, wet, leaks, leak, rings, right, parts, part, way, count)
-
-# How many of a call's first numbers are cells, from call 0 on.
-CELL_NUMBERS = (0, 1, 1, 1, 1, 0, 0, 1, 0, 0, 0, 1, 2, 0)
+def changed(game, number, numbers):
+    # Kept ahead of the change, and remembered only if it was not refused.
+    kept = game.as_it_is()
+    handler = CHANGES[number]
+    told = handler(game, numbers)
+    if told[0] >= 0:
+        game.remember(kept)
+    return told
 
 
 def lacks_cell(game, number, numbers):
@@ -141,9 +72,9 @@ def lacks_cell(game, number, numbers):
 def answer(game, number, numbers):
     if number != START and not game.begun:
         return [NOT_BEGUN]
-    if number >= len(HANDLERS):
-        raise NotBuilt(f"call {number} is not built yet")
     if lacks_cell(game, number, numbers):
         return [OUT_OF_RANGE]
-    handler = HANDLERS[number]
+    if number in CHANGES:
+        return changed(game, number, numbers)
+    handler = ASKED[number] if number in ASKED else OTHERS[number]
     return handler(game, numbers)

@@ -11,6 +11,10 @@ def has_arm(piece, direction):
     return piece & ARMS[direction] != 0
 
 
+def arm_count(piece):
+    return len([direction for direction in DIRECTIONS if has_arm(piece, direction)])
+
+
 def opposite(direction):
     return (direction + 2) % 4
 
@@ -29,3 +33,16 @@ def lies(piece):
         if lying not in found:
             found.append(lying)
     return found
+
+
+def quarters_to(piece, other):
+    # The fewest quarters to the right, or None if the one is not the other turned.
+    found = lies(piece)
+    if other not in found:
+        return None
+    return found.index(other)
+
+
+def turns_by(quarters):
+    # Three quarters to the right are one to the left.
+    return min(quarters, 4 - quarters)

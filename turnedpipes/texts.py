@@ -34,3 +34,12 @@ def read_board(text, width, height):
                 return None
             pieces.append(digits.index(byte))
     return pieces
+
+
+def written(pieces, width):
+    text = []
+    for cell in range(len(pieces)):
+        text.append(ord(DIGITS[pieces[cell]]))
+        if cell % width == width - 1:
+            text.append(LINE_END)
+    return text

@@ -1,18 +1,14 @@
 """Ways: the right boards that come of a board by turning pieces that are not held."""
 
 from turnedpipes.joints import is_right, piped_cells
-from turnedpipes.pieces import DIRECTIONS, has_arm, lies, opposite
-
-
-def arm_total(pieces):
-    return sum([len([direction for direction in DIRECTIONS if has_arm(piece, direction)]) for piece in pieces])
+from turnedpipes.pieces import DIRECTIONS, arm_count, has_arm, lies, opposite, quarters_to, turns_by
 
 
 def may_be_right(pieces):
     # A right board with a pipe has one joint fewer than cells with a pipe, two arms to each joint and no other
     # arm; turning leaves how many arms there are. Most boards without a way are told from this alone.
     joints = max(0, len(piped_cells(pieces)) - 1)
-    return arm_total(pieces) == 2 * joints
+    return sum([arm_count(piece) for piece in pieces]) == 2 * joints
 
 
 def fits(laid, sides):
@@ -49,3 +45,20 @@ def all_ways(pieces, held, sides, source):
         choices = [pieces[cell]] if cell in held else lies(pieces[cell])
         boards = laid_further(boards, choices, sides)
     return [board for board in boards if is_right(board, sides, source)]
+
+
+def is_turned(pieces, board):
+    return all([quarters_to(pieces[cell], board[cell]) is not None for cell in range(len(pieces))])
+
+
+def turn_total(pieces, board):
+    return sum([turns_by(quarters_to(pieces[cell], board[cell])) for cell in range(len(pieces))])
+
+
+def lies_alike(ways, cell):
+    return all([board[cell] == ways[0][cell] for board in ways])
+
+
+def nearest_way(pieces, ways):
+    # Of several that are as near min gives the first.
+    return min(ways, key=lambda board: turn_total(pieces, board))
